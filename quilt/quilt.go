@@ -28,6 +28,11 @@ func Same(a, b api.Quilt) bool {
 	return a.Turn == b.Turn && slices.Equal(a.Files, b.Files)
 }
 
+// Clone a quilt: its files in memory of their own.
+func Clone(q api.Quilt) api.Quilt {
+	return api.Quilt{Files: slices.Clone(q.Files), Turn: q.Turn}
+}
+
 // turned: the quilt one turn on. It is asked last, since a full count of turns is told behind all other errors.
 func turned(q api.Quilt, files []api.File) (api.Quilt, error) {
 	if q.Turn >= api.MaxTurn {

@@ -497,3 +497,21 @@ func TestW5(t *testing.T) {
 		q = next
 	}
 }
+
+// A clone is the same quilt, and shares no memory with it.
+func TestZ2Clone(t *testing.T) {
+	for _, q := range []api.Quilt{{}, quilt.New(), sample(), full(), {Files: full().Files[:3], Turn: -1}} {
+		before := api.Quilt{Files: append([]api.File(nil), q.Files...), Turn: q.Turn}
+		c := quilt.Clone(q)
+		if !equal(c, before) {
+			t.Errorf("Clone(%v): %v", q, c)
+		}
+		for i := range c.Files {
+			c.Files[i].Text = "mine"
+		}
+		_ = append(c.Files, api.File{Name: "mine"})
+		if !equal(q, before) {
+			t.Errorf("a clone shares memory: %v, it was %v", q, before)
+		}
+	}
+}

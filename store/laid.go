@@ -11,20 +11,16 @@ import (
 	"patchquilt/row"
 )
 
-// The head: a mark, which side it is, how many bytes of it, and a sum of all of these.
+// A head: a mark, which side it is of, how many rows are there, and a sum of them.
 const (
-	mark        = "patchquilt"
-	sideAt      = len(mark)
-	lengthAt    = sideAt + 1
-	lengthBytes = 2
-	sumAt       = lengthAt + lengthBytes
-	sumBytes    = 8
+	mark     = "patchquilt"
+	countAt  = len(mark) + 1
+	sumBytes = 8
 )
 
 // head that says that a side has this text.
 func head(side int, text string) string {
-	s := mark + number.Bytes(uint64(side), 1) + number.Bytes(uint64(len(text)), lengthBytes)
-	return s + number.Bytes(sum(s+text), sumBytes)
+	return mark + string([]byte{byte(side), byte(len(text) / api.Sector)}) + number.Bytes(sum(text), sumBytes)
 }
 
 // sum of bytes: other bytes have another one, but for great ill luck (FNV-1a).
@@ -36,56 +32,77 @@ func sum(s string) uint64 {
 	return n
 }
 
-// lay a text on a side, as a whole: it is there with the head's one sector.
+func sideAt(side int) int { return sidesAt + side*api.MaxRows }
+
+// lay a text on a side, as a whole: a side's head is one sector, and so is the end of the other one's.
 func lay(d *disk.Disk, side int, text string) error {
-	at := sidesAt + side*sideSectors
+	at := sideAt(side)
 	for piece := range slices.Chunk([]byte(text), api.Sector) {
 		if err := d.Write(at, string(piece)); err != nil {
 			return err
 		}
 		at++
 	}
+	// Ahead of the head, so that nothing hangs on the sum's luck but what others write.
 	if err := d.Flush(); err != nil {
 		return err
 	}
-	return settle(d, headAt, head(side, text))
+	if err := settle(d, side, head(side, text)); err != nil {
+		return err
+	}
+	return settle(d, other(side), "")
 }
 
-// laid: which side the head names, and its text.
-func laid(d *disk.Disk) (int, string, error) {
-	s, err := d.Read(headAt)
-	if err != nil {
-		return 0, "", err
+// laid: which side has the rows, and these.
+func laid(d *disk.Disk) (int, []api.Change, error) {
+	if d.Down() {
+		return 0, nil, api.ErrDown
 	}
-	side, size := int(s[sideAt]), int(number.Of(s[lengthAt:sumAt]))
-	if d.Sectors() < fewest || side > 1 || size > sideSectors*api.Sector {
-		return 0, "", api.ErrText
+	if d.Sectors() < fewest {
+		return 0, nil, api.ErrText
 	}
-	text, err := read(d, sidesAt+side*sideSectors, size)
+	for _, side := range []int{stronger, other(stronger)} {
+		if rows, err := whole(d, side); err == nil {
+			return side, rows, nil
+		}
+	}
+	return 0, nil, api.ErrText
+}
+
+// whole: the rows of a side, if it has just what its head says.
+func whole(d *disk.Disk, side int) ([]api.Change, error) {
+	s, err := d.Read(side)
 	if err != nil {
-		return 0, "", err
+		return nil, err
+	}
+	count := int(s[countAt])
+	if count > api.MaxRows {
+		return nil, api.ErrText
+	}
+	text, err := read(d, sideAt(side), count)
+	if err != nil {
+		return nil, err
 	}
 	if !strings.HasPrefix(s, head(side, text)) {
-		return 0, "", api.ErrText
+		return nil, api.ErrText
 	}
-	return side, text, nil
+	return parse(text)
 }
 
-// read so many bytes, from a sector on.
-func read(d *disk.Disk, at, size int) (string, error) {
+// read so many sectors, from one on.
+func read(d *disk.Disk, at, many int) (string, error) {
 	var b strings.Builder
-	for b.Len() < size {
-		s, err := d.Read(at)
+	for i := range many {
+		s, err := d.Read(at + i)
 		if err != nil {
 			return "", err
 		}
-		b.WriteString(s[:min(len(s), size-b.Len())])
-		at++
+		b.WriteString(s)
 	}
 	return b.String(), nil
 }
 
-// textOf rows: of each how many bytes it has, in one, and these.
+// textOf rows: of each a sector: how many bytes it has, in one, and these.
 func textOf(rows []api.Change) string {
 	var b strings.Builder
 	for _, c := range rows {
@@ -93,35 +110,35 @@ func textOf(rows []api.Change) string {
 		s, _ := row.Bytes(c)
 		b.WriteByte(byte(len(s)))
 		b.WriteString(s)
+		b.WriteString(strings.Repeat("\x00", api.Sector-1-len(s)))
 	}
 	return b.String()
 }
 
-// cut a text into the bytes of its rows.
+// cut a text of sectors into the bytes of its rows.
 func cut(text string) iter.Seq[string] {
 	return func(yield func(string) bool) {
-		for text != "" {
-			behind := min(1+int(text[0]), len(text))
+		for ; text != ""; text = text[api.Sector:] {
+			behind := min(1+int(text[0]), api.Sector)
 			if !yield(text[1:behind]) {
 				return
 			}
-			text = text[behind:]
 		}
 	}
 }
 
-// parse a text of rows: they rise, and none is gone.
-func parse(s string) ([]api.Change, error) {
+// parse a text of sectors: its rows rise, and none is gone.
+func parse(text string) ([]api.Change, error) {
 	var rows []api.Change
-	for piece := range cut(s) {
-		c, err := row.Parse(piece)
+	for s := range cut(text) {
+		c, err := row.Parse(s)
 		if err != nil {
 			return nil, api.ErrText
 		}
 		rows = append(rows, c)
 	}
 	// Applied to nothing, rows that rise, none of them gone, are left as they are.
-	if len(rows) > api.MaxRows || !slices.Equal(row.Apply(nil, rows), rows) || textOf(rows) != s {
+	if !slices.Equal(row.Apply(nil, rows), rows) || textOf(rows) != text {
 		return nil, api.ErrText
 	}
 	return rows, nil

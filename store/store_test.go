@@ -169,6 +169,31 @@ func TestI1WithoutHead(t *testing.T) {
 	}
 }
 
+// Just the sectors that are in use count: one of the two heads, those of the side's rows, and the log's.
+func TestI1InUse(t *testing.T) {
+	d, s := formatted(t, 60)
+	committed(t, s, rows(5, "v")...)
+	for i := range 4 {
+		side := 1 - i%2
+		laid := 5
+		if i == 0 {
+			laid = 0
+		}
+		for at := range logAt {
+			good, _ := d.Read(at)
+			_ = d.Write(at, "spoilt")
+			_, err := store.Open(d)
+			inUse := at == side || at >= 2+12*side && at < 2+12*side+laid
+			if inUse != (err == api.ErrText) {
+				t.Errorf("behind %d checkpoints, sector %d is spoilt: %v", i, at, err)
+			}
+			_ = d.Write(at, good)
+		}
+		checkpointed(t, s)
+		committed(t, s)
+	}
+}
+
 // sector of a log, by hand.
 func sector(kind string, n int, data string) string {
 	return kind + number.Bytes(uint64(n), 4) + number.Bytes(uint64(len(data)), 2) + data
@@ -622,15 +647,18 @@ func TestI4(t *testing.T) {
 		{"the greatest commit", life(60, twelve), commit(slices.Concat(other, l(a, gone("a")))), 16, other},
 		{"a commit behind a checkpoint", life(60, twelve, nil), commit(other[:3]), 5, row.Apply(twelve, other[:3])},
 		{"a commit behind two", life(60, six, nil, twelve[6:], nil), commit(l(gone(six[0].Key))), 3, twelve[1:]},
-		{"a commit that lays all ahead of it", life(42, twelve), commit(other[:7]), 9, row.Apply(twelve, other[:7])},
-		{"and back", life(42, six, nil, twelve), commit(other[:7]), 9, row.Apply(twelve, other[:7])},
+		{"a commit that lays all ahead of it", life(42, twelve), commit(other[:7]), 12, row.Apply(twelve, other[:7])},
+		{"and back", life(42, six, nil, twelve), commit(other[:7]), 12, row.Apply(twelve, other[:7])},
 		{"and on", life(42, six, nil, six, nil, twelve), commit(other), 14, other},
 		{"a commit to the last sector", life(42, six), commit(other[:8]), 10, row.Apply(six, other[:8])},
-		{"a checkpoint", life(60, twelve), checkpoint, 9, twelve},
-		{"the second checkpoint", life(60, six, nil, twelve), checkpoint, 9, twelve},
-		{"the third checkpoint", life(60, six, nil, twelve, nil, l(gone(six[0].Key))), checkpoint, 9, twelve[1:]},
-		{"a checkpoint behind one", life(60, twelve, nil), checkpoint, 9, twelve},
-		{"a checkpoint behind two", life(60, six, nil, twelve, nil), checkpoint, 9, twelve},
+		{"a checkpoint", life(60, six), checkpoint, 6, six},
+		{"the second checkpoint", life(60, twelve, nil, l(gone(twelve[9].Key), gone(twelve[6].Key), gone(twelve[3].Key), gone(twelve[0].Key))), checkpoint, 8, slices.Concat(twelve[1:3], twelve[4:6], twelve[7:9], twelve[10:])},
+		{"the third checkpoint", life(60, six[:3], nil, six[3:], nil, other[:2]), checkpoint, 6, row.Apply(six, other[:2])},
+		{"a great checkpoint", life(60, twelve), checkpoint, 12, twelve},
+		{"the second great one", life(60, six, nil, twelve), checkpoint, 12, twelve},
+		{"the third great one", life(60, six, nil, twelve, nil, l(gone(six[0].Key))), checkpoint, 11, twelve[1:]},
+		{"a checkpoint behind one", life(60, twelve, nil), checkpoint, 12, twelve},
+		{"a checkpoint behind two", life(60, six, nil, twelve, nil), checkpoint, 12, twelve},
 		{"a checkpoint of nothing", life(60), checkpoint, 1, nil},
 		{"a checkpoint of what is no more", life(60, l(a), nil, l(gone("a"))), checkpoint, 1, nil},
 	} {
@@ -653,34 +681,51 @@ func TestI4(t *testing.T) {
 	}
 }
 
-// A fall in Format: the old store as it was, or none, or an empty one, at whichever step, whatever is kept.
+// A fall in Format: the old store as it was, or none, or an empty one, at whichever step, whatever is kept; also if it fell ahead of it, when it was laid as a whole.
 func TestI4Format(t *testing.T) {
-	six, twelve := rows(6, "v"), rows(12, "w")
-	for step := 0; ; step++ {
-		for keep := range uint64(8) {
-			d, s := formatted(t, 60)
-			committed(t, s, six...)
-			checkpointed(t, s)
-			committed(t, s, gone(six[0].Key))
-			checkpointed(t, s)
-			committed(t, s, twelve...)
-			d.Arm(step)
-			err := store.Format(d)
-			d.Restart(keep)
-			if err == nil {
-				opened(t, d, 34)
-				return
+	for checkpoints := range 4 {
+		for fall := -1; fall < 20; fall++ {
+			for step := 0; formatFalls(t, checkpoints, fall, step); step++ {
 			}
-			s, err = store.Open(d)
-			if err != nil && err != api.ErrText || err == nil && len(s.Rows()) > 0 && !slices.Equal(s.Rows(), twelve) {
-				t.Fatalf("Format falls at step %d, %b is kept: %v", step, keep, err)
-			}
-			if err := store.Format(d); err != nil {
-				t.Fatal(err)
-			}
-			opened(t, d, 34)
 		}
 	}
+}
+
+// formatFalls at a step, behind so many checkpoints, the last of which fell; it tells whether it did.
+func formatFalls(t *testing.T, checkpoints, fall, step int) bool {
+	t.Helper()
+	for keep := range uint64(2) {
+		d, s := formatted(t, 60)
+		for i := range checkpoints {
+			committed(t, s, rows(3+i, "v")...)
+			if i == checkpoints-1 {
+				d.Arm(fall)
+			}
+			_ = s.Checkpoint()
+		}
+		d.Restart(math.MaxUint64)
+		s, err := store.Open(d)
+		if err != nil {
+			t.Fatal(err)
+		}
+		committed(t, s, a)
+		was := s.Rows()
+		d.Arm(step)
+		fell := store.Format(d) != nil
+		d.Restart(keep)
+		if s, err := store.Open(d); err != nil && err != api.ErrText || err == nil && len(s.Rows()) > 0 && !slices.Equal(s.Rows(), was) {
+			t.Fatalf("Format falls at step %d, %b is kept: %v %v, it was %v", step, keep, s, err, was)
+		}
+		if !fell {
+			opened(t, d, 34)
+			return false
+		}
+		if err := store.Format(d); err != nil {
+			t.Fatal(err)
+		}
+		opened(t, d, 34)
+	}
+	return true
 }
 
 // A long life with many falls.
